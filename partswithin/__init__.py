@@ -1,0 +1,1 @@
+"""Parts within parts, by ridges and for every price."""
