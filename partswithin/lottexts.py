@@ -14,7 +14,7 @@ def are_lots(thing):
 
 
 def names_text(lot):
-    return ", ".join(sorted(lot))
+    return ", ".join(lot)
 
 
 def lots_text(lots):

@@ -21,7 +21,7 @@ def need_lot(web, lot):
 
 def need_place_within(web, lot, place):
     need_lot(web, lot)
-    if not isinstance(place, str) or place not in lot:
+    if place not in lot:
         raise NoPlace(place)
 
 
