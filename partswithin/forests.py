@@ -2,9 +2,9 @@
 
 from partswithin.checks import tie_told
 from partswithin.errors import BadForest
-from partswithin.forms import is_list, is_row, pair_told
+from partswithin.forms import is_list, is_row, lot_indexes, pair_told
 from partswithin.joined import Joined
-from partswithin.roots import need_roots, root_indexes
+from partswithin.roots import need_roots
 from partswithin.walks import walk
 
 
@@ -19,7 +19,7 @@ def forest_fault(web, roots, thing):
     for index, (one, other) in enumerate(thing):
         if not joined.unite(one, other):
             return ("ring", index)
-    rooted = root_indexes(roots)
+    rooted = lot_indexes(roots)
     for place in web.places():
         if not any([near in rooted for near in joined.lot_of(place)]):
             return ("lone", place)
@@ -28,7 +28,7 @@ def forest_fault(web, roots, thing):
 
 def first_no_tie(web, roots, things):
     """The index of the first thing that is no tie of the web, stood before, or is within a root."""
-    rooted = root_indexes(roots)
+    rooted = lot_indexes(roots)
     stood = {}
     for index, thing in enumerate(things):
         tie = tie_told(web, thing)

@@ -65,3 +65,8 @@ def is_price(thing):
 def pair_told(one, other):
     """A tie's two places, the lesser one first."""
     return (one, other) if one < other else (other, one)
+
+
+def lot_indexes(lots):
+    """The dict from each place of these lots to the index of its lot."""
+    return {place: index for index, lot in enumerate(lots) for place in lot}

@@ -39,7 +39,14 @@ def hangs_together(web, lot):
 
 def level(web, one, other):
     need_two_places(web, one, other)
-    joined = Joined(web.places())
+    return height_to_join(web, Joined(web.places()), one, other)
+
+
+def height_to_join(web, joined, one, other):
+    """The least height up to which ties make one lot of both; None if no ties do.
+
+    What is joined already is more joined behind it.
+    """
     for height, low, high in sorted([(tie[2], tie[0], tie[1]) for tie in web.ties()]):
         joined.unite(low, high)
         if joined.are_one(one, other):

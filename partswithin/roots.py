@@ -23,8 +23,3 @@ def need_roots(web, roots):
     for part in parts(web):
         if not any([place in rooted for place in part]):
             raise NoRoot(part[0])
-
-
-def root_indexes(roots):
-    """The dict from each place of a root to the index of this root."""
-    return {place: index for index, root in enumerate(roots) for place in root}

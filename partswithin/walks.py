@@ -1,5 +1,7 @@
 """Walks over places, step by step."""
 
+from heapq import heappop, heappush
+
 
 def walk(starts, steps):
     """The dict from each place that is come to, nearest first, to the one ahead of it.
@@ -36,3 +38,26 @@ def row_back(ahead, place):
         row.append(place)
         place = ahead[place]
     return row[::-1]
+
+
+def descend(start, height, ties_at):
+    """What is come to over ties that never rise, the first at most as high as told.
+
+    It is two dicts from each place that is come to: to the greatest height that a last tie
+    can have, and to the place ahead of it over such a tie, None for the start. ties_at tells
+    the pairs (other, height) at a place.
+    """
+    heights = {}
+    ahead = {}
+    # no later tie is higher, so what comes out first has its greatest height
+    queue = [(-height, start, None)]
+    while queue:
+        least, place, before = heappop(queue)
+        if place in heights:
+            continue
+        heights[place] = -least
+        ahead[place] = before
+        for near, own in ties_at(place):
+            if near not in heights and own <= -least:
+                heappush(queue, (-own, near, place))
+    return heights, ahead

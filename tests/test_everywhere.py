@@ -32,28 +32,52 @@ INTERFACE = {
     "whose": ["hollows_under(web, place)", "fall_to(web, place, hollow)", "sure_places(web, hollow)",
               "shared_places(web)"],
     "stuck": ["fall_within(web, lot, place)", "stuck(web, lot, place)"],
+    "drops": ["drop(web, lot, place, height)", "is_drop(web, lot, place, height, thing)",
+              "arrivals(web, lot, place, height)", "is_bar(web, lot, place, height, thing)"],
+    "ridges": ["ridge_fault(web, thing)", "by_ridges(web)", "drop_fault(web, parting)",
+               "forest_of(web, parting)"],
+    "kinds": ["tie_kind(web, one, other)", "falls_apart(web, one, other)", "all_over(web, one, other)",
+              "is_all_over(web, one, other, thing)", "falls_together(web, one, other)"],
+    "firsts": ["first_parting(web, order)", "ridge_pass(web, parting, one, other)"],
+    "steps": ["led(web, one, other)", "is_led(web, one, other, thing)"],
+    "counted": ["count_partings(web)", "parting_at(web, number)", "parting_number(web, parting)"],
+    "raising": ["levels_to(web, roots)", "raised(web, roots)"],
 }
+OVER_WEBS = ("levels", "forests", "tables", "hollows", "whose", "stuck", "drops", "ridges", "kinds",
+             "firsts", "steps", "counted", "raising")
+
+PARTING = [["c", "b", "a"], ["d", "e"]]
 
 # right things for each parameter, for the web W, and the first error that each is to raise
 RIGHT = {"web": W, "height": 1, "one": "a", "other": "e", "roots": [["b", "a"], ["d", "e"]],
          "forest": [["c", "b"]], "thing": None, "nest": [[["b", "a"], 1]], "place": "c",
          "table": [["b", "a", 1], ("b", "c", 2), ("c", "d", None), ("d", "e", 1)],
-         "hollow": ["e", "d"], "lot": ["c", "b", "a"]}
+         "hollow": ["e", "d"], "lot": ["c", "b", "a"], "parting": PARTING,
+         "order": [("e", "d"), ["a", "b"]], "number": 1}
 FIRST_WRONG = {"web": (5, (errors.BadWeb, 5)), "height": ("1", (errors.BadHeight, "1")),
                "one": ("f", (errors.NoPlace, "f")), "other": (7, (errors.NoPlace, 7)),
                "roots": (None, (errors.BadRoots, 0)), "forest": ({}, (errors.BadForest, {})),
                "nest": ("n", (errors.BadNest, "n")), "place": ([], (errors.NoPlace, [])),
                "table": (4, (errors.BadTable, 4)), "hollow": (["c"], (errors.BadHollow, ["c"])),
-               "lot": (["a", "f"], (errors.BadLot, 1))}
+               "lot": (["a", "f"], (errors.BadLot, 1)), "parting": ([["a"]], (errors.BadParting, [["a"]])),
+               "order": ([["a"]], (errors.BadOrder, 0)), "number": (-1, (errors.BadNumber, -1))}
+# where a parameter's name means something else
+RIGHT_IN = {"tie_kind": {"other": "b"},
+            "led": {"one": PARTING, "other": [["b", "a"], ("c", "d", "e")]},
+            "is_led": {"one": PARTING, "other": [["b", "a"], ("c", "d", "e")]}}
+WRONG_IN = {name: {"one": ("f", (errors.BadParting, "f")), "other": ([], (errors.BadParting, []))}
+            for name in ("led", "is_led")}
 
 
 def listed():
-    """All functions of the interface over webs, with the names of their parameters."""
-    for module in ("levels", "forests", "tables", "hollows", "whose", "stuck"):
+    """All functions of the interface over webs, each with right and wrong things by parameter."""
+    for module in OVER_WEBS:
         for line in INTERFACE[module]:
             name, names = line[:-1].split("(")
             function = getattr(importlib.import_module(f"partswithin.{module}"), name)
-            yield function, names.split(", ")
+            right = {key: RIGHT_IN.get(name, {}).get(key, RIGHT[key]) for key in names.split(", ")}
+            wrong = {key: WRONG_IN.get(name, {}).get(key, FIRST_WRONG[key]) for key in right if key != "thing"}
+            yield function, right, wrong
 
 
 def swapped(thing):
@@ -90,24 +114,22 @@ class Interface(unittest.TestCase):
 class Passed(unittest.TestCase):
 
     def test_the_earlier_parameters_error_is_raised(self):
-        for function, names in listed():
-            checked = [name for name in names if name in FIRST_WRONG and name != "thing"]
-            if function.__name__ == "nest_of_table":
-                self.assertEqual(checked, ["web", "table"])
+        for function, right, wrong in listed():
+            checked = list(wrong)
             for at, name in enumerate(checked):
-                things = [FIRST_WRONG[other][0] if other in checked[at:] else RIGHT[other]
-                          for other in names]
+                things = [wrong[other][0] if other in checked[at:] else right[other] for other in right]
                 with self.subTest(function=function.__name__, first=name):
-                    self.assertEqual(raised(function, *things), FIRST_WRONG[name][1])
+                    self.assertEqual(raised(function, *things), wrong[name][1])
 
     def test_every_web_and_place_that_is_none(self):
-        for function, names in listed():
-            for name, error in (("web", errors.BadWeb), ("place", errors.NoPlace), ("one", errors.NoPlace),
-                                ("other", errors.NoPlace)):
+        for function, right, wrong in listed():
+            for name, (_, (error, _)) in wrong.items():
                 for thing in odd_objects():
-                    if name not in names or isinstance(thing, Web) and name == "web" or thing in ("a", "b"):
+                    if error not in (errors.BadWeb, errors.NoPlace) or thing in ("a", "b"):
                         continue
-                    things = [thing if other == name else RIGHT[other] for other in names]
+                    if error is errors.BadWeb and isinstance(thing, Web):
+                        continue
+                    things = [thing if other == name else right[other] for other in right]
                     try:
                         function(*things)
                         self.fail((function.__name__, name, thing))
@@ -115,18 +137,18 @@ class Passed(unittest.TestCase):
                         self.assertIs(kept.thing, thing)
 
     def test_lists_and_tuples_are_alike_and_nothing_is_changed(self):
-        for function, names in listed():
-            things = [RIGHT[name] for name in names]
+        for function, right, _ in listed():
+            things = list(right.values())
             before = copy.deepcopy([thing for thing in things if thing is not W])
             told = function(*things)
             with self.subTest(function.__name__):
                 self.assertEqual([thing for thing in things if thing is not W], before)
                 self.assertEqual(function(*[swapped(thing) for thing in things]), told)
-                self.assertEqual(function(**dict(zip(names, things))), told)
+                self.assertEqual(function(**right), told)
 
     def test_what_is_told_is_new_each_time(self):
-        for function, names in listed():
-            things = [RIGHT[name] for name in names]
+        for function, right, _ in listed():
+            things = list(right.values())
             told = function(*things)
             kept = copy.deepcopy(told)
             with self.subTest(function.__name__):
@@ -136,6 +158,16 @@ class Passed(unittest.TestCase):
                     part.clear()
                 self.assertEqual(function(*things), kept)
                 self.assertEqual(W.places(), list("abcde"))
+
+    def test_the_same_answer_each_time(self):
+        # an equal web that was made otherwise, and another one asked between
+        again = Web(list("ebdca"), [(other, one, height) for one, other, height in W.ties()[::-1]])
+        for function, right, _ in listed():
+            told = function(*right.values())
+            if list(right) == ["web"]:
+                function(R)
+            with self.subTest(function.__name__):
+                self.assertEqual(function(*[again if thing is W else thing for thing in right.values()]), told)
 
     def test_shades_and_rows_are_not_changed(self):
         from partswithin.nesttexts import priced_text
@@ -154,9 +186,9 @@ class Passed(unittest.TestCase):
             self.assertEqual(raised(function, R, "p", "q", True), (errors.BadHeight, True))
 
     def test_functions_of_a_web_alone(self):
-        for function, names in listed():
-            if names == ["web"]:
-                self.assertEqual(function(NONE), [])
+        for function, right, _ in listed():
+            if list(right) == ["web"]:
+                self.assertEqual(function(NONE), 1 if function.__name__ == "count_partings" else [])
 
 
 if __name__ == "__main__":

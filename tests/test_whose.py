@@ -4,39 +4,14 @@ import itertools
 import random
 import unittest
 
-from helpers import NONE, R, W, hangs, odd_objects, raised, small_webs, subsets
+from helpers import NONE, R, W, odd_objects, raised, small_webs, subsets
 from partswithin.errors import BadHollow, BadLot, BadWeb, NoPlace
-from partswithin.hollows import falls, hollows
+from partswithin.hollows import hollows
 from partswithin.stuck import fall_within, stuck
 from partswithin.webs import Web
 from partswithin.whose import fall_to, hollows_under, shared_places, sure_places
+from plain import owners_by_ridges, reached, under
 from test_hollows import PLATEAU, is_row_of_falls
-
-
-def reached(web, place, lot):
-    """All places to which rows of falls over places of the lot lead."""
-    found = [place]
-    for stop in found:
-        found += [near for near in falls(web, stop) if near in lot and near not in found]
-    return found
-
-
-def under(web, place):
-    lot = reached(web, place, web.places())
-    return [hollow for hollow in hollows(web) if set(hollow) & set(lot)]
-
-
-def partings_by_ridges(web):
-    """All of them, by the words of [31]: each place to one of the hollows."""
-    pits = hollows(web)
-    owner = {place: at for at, pit in enumerate(pits) for place in pit}
-    free = [place for place in web.places() if place not in owner]
-    for choice in itertools.product(range(len(pits)), repeat=len(free)):
-        own = dict(owner, **dict(zip(free, choice)))
-        lots = [[place for place in web.places() if own[place] == at] for at in range(len(pits))]
-        if all(hangs(web, lot) and all(set(pit) <= set(reached(web, place, lot)) for place in lot)
-               for lot, pit in zip(lots, pits)):
-            yield own
 
 
 class Under(unittest.TestCase):
@@ -81,7 +56,7 @@ class Under(unittest.TestCase):
         for web in small_webs(51, 60, 6, chance=0.5):
             pits = hollows(web)
             found = {place: set() for place in web.places()}
-            for own in partings_by_ridges(web):
+            for own in owners_by_ridges(web):
                 for place in web.places():
                     found[place].add(own[place])
             for place in web.places():

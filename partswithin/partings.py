@@ -1,0 +1,77 @@
+"""Partings: lots that have all places, each with a hollow; and those that choices of falls make."""
+
+from partswithin.checks import is_web_lot, need_web
+from partswithin.errors import BadParting
+from partswithin.forms import is_list, lot_indexes
+from partswithin.hollows import hollows, hollows_by_place
+from partswithin.joined import Joined
+from partswithin.levels import hangs_together
+from partswithin.walks import walk
+from partswithin.whose import rises
+
+
+def is_sharing(web, thing):
+    """Whether any object is a list of lots that have all places of the web, each once."""
+    if not is_list(thing) or not all([is_web_lot(web, lot) for lot in thing]):
+        return False
+    return sorted([place for lot in thing for place in lot]) == web.places()
+
+
+def has_just_one(owners, lot):
+    """Whether the lot has one hollow, whole, and no place of another one.
+
+    owners is the dict from each place of a hollow to it.
+    """
+    owned = [owners[place] for place in lot if place in owners]
+    if len(owned) == 0 or len(owned) != len(owned[0]):
+        return False
+    return all([hollow[0] == owned[0][0] for hollow in owned])
+
+
+def parting_wrong(web, thing):
+    """Why any object is no parting: ("form",), ("apart", index), ("hollows", index); else None."""
+    if not is_sharing(web, thing):
+        return ("form",)
+    for index, lot in enumerate(thing):
+        if not hangs_together(web, lot):
+            return ("apart", index)
+    owners = hollows_by_place(web)
+    for index, lot in enumerate(thing):
+        if not has_just_one(owners, lot):
+            return ("hollows", index)
+    return None
+
+
+def need_parting(web, parting):
+    need_web(web)
+    if parting_wrong(web, parting) is not None:
+        raise BadParting(parting)
+
+
+def parting_told(parting):
+    return sorted([sorted(lot) for lot in parting])
+
+
+def choices_within(web, parting):
+    """The dict from each place from which falls within its lot lead to the lot's hollow.
+
+    It is to the place to which such a one falls, None in a hollow; from the hollows up.
+    """
+    indexes = lot_indexes(parting)
+    above = rises(web)
+
+    def steps(place):
+        return [near for near in above[place] if indexes[near] == indexes[place]]
+
+    return walk(hollows_by_place(web), steps)
+
+
+def lots_chosen(web, choices):
+    """The parting that comes of choices: a place to which it falls for each that is in no hollow."""
+    joined = Joined(web.places())
+    for hollow in hollows(web):
+        joined.unite_all(hollow)
+    for place, near in choices.items():
+        if near is not None:
+            joined.unite(place, near)
+    return joined.lots()
