@@ -70,3 +70,8 @@ def pair_told(one, other):
 def lot_indexes(lots):
     """The dict from each place of these lots to the index of its lot."""
     return {place: index for index, lot in enumerate(lots) for place in lot}
+
+
+def rows_told(rows):
+    """Rows that begin with lots as they are told: lots ascending, and names in them."""
+    return sorted([(sorted(row[0]), *row[1:]) for row in rows])

@@ -26,6 +26,14 @@ class Joined:
         for thing in things:
             self.unite(things[0], thing)
 
+    def unite_pairs(self, pairs):
+        for one, other in pairs:
+            self.unite(one, other)
+
+    def top_of(self, thing):
+        """One thing of its lot, the same for all in it."""
+        return self._tops[thing]
+
     def are_one(self, one, other):
         return self._tops[one] == self._tops[other]
 

@@ -2,7 +2,7 @@
 
 from partswithin.errors import BadForm
 from partswithin.forms import (are_unlike, is_integer, is_list, is_lot_of_names, is_number,
-                               is_price, is_row)
+                               is_price, is_row, rows_told)
 from partswithin.lottexts import are_lots, lots_text, names_text, read_lot_lines
 from partswithin.namestock import NameStock
 from partswithin.signs import (Signs, fault_of, read_fraction, read_integer, read_lot,
@@ -16,11 +16,6 @@ def are_lot_rows(thing, many):
     if not all([is_lot_of_names(row[0]) for row in thing]):
         return False
     return are_unlike([tuple(sorted(row[0])) for row in thing])
-
-
-def rows_told(rows):
-    """The rows as they are written: lots ascending, and names in them."""
-    return sorted([(sorted(row[0]), *row[1:]) for row in rows])
 
 
 def read_rows(text, word, close, read_rest):

@@ -18,28 +18,35 @@ def is_sharing(web, thing):
 
 
 def has_just_one(owners, lot):
-    """Whether the lot has one hollow, whole, and no place of another one.
+    """Whether the lot has one hollow, or root, whole, and no place of another one.
 
-    owners is the dict from each place of a hollow to it.
+    owners is the dict from each place of such a one to it.
     """
     owned = [owners[place] for place in lot if place in owners]
     if len(owned) == 0 or len(owned) != len(owned[0]):
         return False
-    return all([hollow[0] == owned[0][0] for hollow in owned])
+    return all([owner[0] == owned[0][0] for owner in owned])
 
 
-def parting_wrong(web, thing):
-    """Why any object is no parting: ("form",), ("apart", index), ("hollows", index); else None."""
+def lots_wrong(web, owners, word, thing):
+    """Why any object is no list of lots that are right: ("form",), ("apart", index), (word, index).
+
+    It is None for lots that hang together and have just one of what owners tells, each.
+    """
     if not is_sharing(web, thing):
         return ("form",)
     for index, lot in enumerate(thing):
         if not hangs_together(web, lot):
             return ("apart", index)
-    owners = hollows_by_place(web)
     for index, lot in enumerate(thing):
         if not has_just_one(owners, lot):
-            return ("hollows", index)
+            return (word, index)
     return None
+
+
+def parting_wrong(web, thing):
+    """Why any object is no parting: ("form",), ("apart", index), ("hollows", index); else None."""
+    return lots_wrong(web, hollows_by_place(web), "hollows", thing)
 
 
 def need_parting(web, parting):
@@ -50,6 +57,12 @@ def need_parting(web, parting):
 
 def parting_told(parting):
     return sorted([sorted(lot) for lot in parting])
+
+
+def ties_between(web, parting):
+    """The triples (one, other, height) of the ties between unlike lots."""
+    indexes = lot_indexes(parting)
+    return [tie for tie in web.ties() if indexes[tie[0]] != indexes[tie[1]]]
 
 
 def choices_within(web, parting):

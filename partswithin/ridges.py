@@ -4,7 +4,8 @@ from partswithin.checks import need_web
 from partswithin.errors import BadParting
 from partswithin.forms import lot_indexes, pair_told
 from partswithin.hollows import hollows_by_place
-from partswithin.partings import choices_within, lots_chosen, need_parting, parting_wrong
+from partswithin.partings import (choices_within, lots_chosen, need_parting, parting_wrong,
+                                  ties_between)
 from partswithin.stuck import stuck
 from partswithin.walks import descend, walk
 from partswithin.whose import rises
@@ -42,12 +43,11 @@ def drop_fault(web, parting):
     def ties_at(place):
         return [pair for pair in web.ties_of(place) if indexes[pair[0]] == indexes[place]]
 
-    for one, other, height in web.ties():
-        if indexes[one] != indexes[other]:
-            for end in (one, other):
-                heights, _ = descend(end, height, ties_at)
-                if not any([place in owners for place in heights]):
-                    return ((one, other), end)
+    for one, other, height in ties_between(web, parting):
+        for end in (one, other):
+            heights, _ = descend(end, height, ties_at)
+            if not any([place in owners for place in heights]):
+                return ((one, other), end)
     return None
 
 

@@ -2,8 +2,9 @@
 
 import itertools
 
-from helpers import hangs
+from helpers import hangs, subsets
 from partswithin.hollows import falls, hollows
+from partswithin.levels import parts
 
 
 def reached(web, place, lot):
@@ -88,6 +89,19 @@ def never_rises(heights, way, height):
     """Whether no tie of a way is higher than the one ahead of it, nor the first one than told."""
     told = [height] + [heights[pair] for pair in zip(way, way[1:])]
     return all(ahead >= behind for ahead, behind in zip(told, told[1:]))
+
+
+def rooted(web, source):
+    """Some roots of a web: lots that hang together, one at least in each part."""
+    roots = []
+    for part in parts(web):
+        left = part
+        for _ in range(source.choice((1, 2, 2, 3))):
+            fits = [lot for lot in subsets(left, 1) if len(lot) < 4 and hangs(web, lot)]
+            if fits:
+                roots.append(source.choice(fits))
+                left = [place for place in left if place not in roots[-1]]
+    return roots
 
 
 def forests(web, roots):

@@ -7,6 +7,7 @@ import unittest
 
 from helpers import M, NONE, R, V, W, odd_objects, raised
 from partswithin import errors
+from partswithin.priced import Priced
 from partswithin.webs import Web
 
 INTERFACE = {
@@ -42,9 +43,20 @@ INTERFACE = {
     "steps": ["led(web, one, other)", "is_led(web, one, other, thing)"],
     "counted": ["count_partings(web)", "parting_at(web, number)", "parting_number(web, parting)"],
     "raising": ["levels_to(web, roots)", "raised(web, roots)"],
+    "rooted": ["parting_by(web, roots)", "roots_fault(web, roots, thing)",
+               "may_join(web, roots, parting, index)"],
+    "orders": ["nest_by_order(web, order)", "order_fault(web, order, thing)", "count_nests(web, order)"],
+    "water": ["lake_of(web, hollow, height)", "ends_at(web, kind)", "order_by(web, kind)"],
+    "priced": ["Priced(rows)", "priced_fault(rows)"],
+    "worths": ["parting_fault(priced, thing)", "weights(priced, parting)", "worth(priced, parting, price)"],
+    "best": ["coarsest(priced, price)", "finest(priced, price)", "count_best(priced, price)",
+             "best_at(priced, price, number)", "worse(priced, parting, price)",
+             "is_worse(priced, parting, price, thing)"],
 }
 OVER_WEBS = ("levels", "forests", "tables", "hollows", "whose", "stuck", "drops", "ridges", "kinds",
-             "firsts", "steps", "counted", "raising")
+             "firsts", "steps", "counted", "raising", "rooted", "orders", "water")
+OVER_NESTS = ("worths", "best")
+NEST = Priced(V)
 
 PARTING = [["c", "b", "a"], ["d", "e"]]
 
@@ -53,25 +65,33 @@ RIGHT = {"web": W, "height": 1, "one": "a", "other": "e", "roots": [["b", "a"], 
          "forest": [["c", "b"]], "thing": None, "nest": [[["b", "a"], 1]], "place": "c",
          "table": [["b", "a", 1], ("b", "c", 2), ("c", "d", None), ("d", "e", 1)],
          "hollow": ["e", "d"], "lot": ["c", "b", "a"], "parting": PARTING,
-         "order": [("e", "d"), ["a", "b"]], "number": 1}
+         "order": [("e", "d"), ["a", "b"]], "number": 1, "index": 0, "kind": "held",
+         "priced": NEST, "price": [1, 1]}
 FIRST_WRONG = {"web": (5, (errors.BadWeb, 5)), "height": ("1", (errors.BadHeight, "1")),
                "one": ("f", (errors.NoPlace, "f")), "other": (7, (errors.NoPlace, 7)),
                "roots": (None, (errors.BadRoots, 0)), "forest": ({}, (errors.BadForest, {})),
                "nest": ("n", (errors.BadNest, "n")), "place": ([], (errors.NoPlace, [])),
                "table": (4, (errors.BadTable, 4)), "hollow": (["c"], (errors.BadHollow, ["c"])),
                "lot": (["a", "f"], (errors.BadLot, 1)), "parting": ([["a"]], (errors.BadParting, [["a"]])),
-               "order": ([["a"]], (errors.BadOrder, 0)), "number": (-1, (errors.BadNumber, -1))}
+               "order": ([["a"]], (errors.BadOrder, 0)), "number": (-1, (errors.BadNumber, -1)),
+               "index": (2, (errors.BadNumber, 2)), "kind": ("deep", (errors.BadKind, "deep")),
+               "priced": (V, (errors.BadPriced, V)), "price": ((2, 2), (errors.BadPrice, (2, 2)))}
 # where a parameter's name means something else
 RIGHT_IN = {"tie_kind": {"other": "b"},
             "led": {"one": PARTING, "other": [["b", "a"], ("c", "d", "e")]},
-            "is_led": {"one": PARTING, "other": [["b", "a"], ("c", "d", "e")]}}
+            "is_led": {"one": PARTING, "other": [["b", "a"], ("c", "d", "e")]},
+            "may_join": {"parting": [["a", "b"], ("c", "d", "e")]},
+            "weights": {"parting": [["d", "c"], ("a",), ["b"]]},
+            "worth": {"parting": [["d", "c"], ("a",), ["b"]]},
+            "worse": {"parting": [["d", "c"], ("a",), ["b"]]},
+            "is_worse": {"parting": [["d", "c"], ("a",), ["b"]]}}
 WRONG_IN = {name: {"one": ("f", (errors.BadParting, "f")), "other": ([], (errors.BadParting, []))}
             for name in ("led", "is_led")}
 
 
 def listed():
-    """All functions of the interface over webs, each with right and wrong things by parameter."""
-    for module in OVER_WEBS:
+    """All functions over webs and priced nests, each with right and wrong things by parameter."""
+    for module in OVER_WEBS + OVER_NESTS:
         for line in INTERFACE[module]:
             name, names = line[:-1].split("(")
             function = getattr(importlib.import_module(f"partswithin.{module}"), name)
@@ -160,14 +180,17 @@ class Passed(unittest.TestCase):
                 self.assertEqual(W.places(), list("abcde"))
 
     def test_the_same_answer_each_time(self):
-        # an equal web that was made otherwise, and another one asked between
-        again = Web(list("ebdca"), [(other, one, height) for one, other, height in W.ties()[::-1]])
+        # equal ones that were made otherwise, with other ones asked between
+        again = {"web": Web(list("ebdca"), [(other, one, height) for one, other, height in W.ties()[::-1]]),
+                 "priced": Priced(V[::-1])}
         for function, right, _ in listed():
             told = function(*right.values())
             if list(right) == ["web"]:
                 function(R)
+            if list(right) == ["priced", "price"]:
+                function(Priced(V[:4]), (3, 1))
             with self.subTest(function.__name__):
-                self.assertEqual(function(*[again if thing is W else thing for thing in right.values()]), told)
+                self.assertEqual(function(**{**right, **{name: again[name] for name in again if name in right}}), told)
 
     def test_shades_and_rows_are_not_changed(self):
         from partswithin.nesttexts import priced_text

@@ -127,6 +127,11 @@ class Language(unittest.TestCase):
         allowed = ("__init__", "__eq__", "__repr__", "__str__", "__len__")
         self.assertTrue(all(not word.startswith("__") or word in allowed for word in own))
 
+    def test_no_name_is_a_method_and_an_attribute(self):
+        methods = {part.name for _, node in nodes(ast.ClassDef) for part in node.body if hasattr(part, "name")}
+        attributes = {node.attr for _, node in nodes(ast.Attribute) if isinstance(node.ctx, ast.Store)}
+        self.assertEqual(methods & attributes, set())
+
     def test_lambdas(self):
         stood = {}
         for name, node in nodes(ast.Lambda):

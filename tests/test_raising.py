@@ -4,29 +4,16 @@ import itertools
 import random
 import unittest
 
-from helpers import NONE, R, W, hangs, odd_objects, raised as error_raised, small_webs, subsets
+from helpers import NONE, R, W, odd_objects, raised as error_raised, small_webs
 from partswithin.errors import BadRoots, BadWeb, NoRoot
 from partswithin.hollows import floor, hollows
 from partswithin.levels import parts
 from partswithin.raising import levels_to, raised
 from partswithin.webs import Web
-from plain import heights_of, ways_within
+from plain import heights_of, rooted, ways_within
 
 # the example of [47]
 FIVE = Web(list("abcde"), [("a", "b", 1), ("b", "c", 4), ("c", "d", 2), ("d", "e", 3)])
-
-
-def rooted(web, source):
-    """Some roots of a web: lots that hang together, one at least in each part."""
-    roots = []
-    for part in parts(web):
-        left = part
-        for _ in range(source.randint(1, 2)):
-            fits = [lot for lot in subsets(left, 1) if len(lot) < 3 and hangs(web, lot)]
-            if fits:
-                roots.append(source.choice(fits))
-                left = [place for place in left if place not in roots[-1]]
-    return roots
 
 
 def free_ties(web, roots):
@@ -84,7 +71,7 @@ class Levels(unittest.TestCase):
     def test_they_are_the_least(self):
         source = random.Random(99)
         stood = 0
-        for web in small_webs(99, 700, 5, least=0, chance=0.45):
+        for web in small_webs(99, 1500, 5, least=0, chance=0.45):
             roots = rooted(web, source)
             inside = [place for root in roots for place in root]
             ties = free_ties(web, roots)
