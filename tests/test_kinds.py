@@ -106,6 +106,9 @@ class Apart(unittest.TestCase):
                                       ("place", "c"), ({}, []), ([], "a"), ("place", W)]:
             self.assertIs(is_all_over(W, "a", "b", thing), False, thing)
         self.assertIs(is_all_over(W, "a", "b", ["hollow", ("b", "a")]), True)
+        self.assertIs(is_all_over(NECK, "a", "b", ("place", "c")), True)
+        for thing in (("hollow", "c"), ("place", ["c"]), ("hollow", ["c"]), ("places", "c")):
+            self.assertIs(is_all_over(NECK, "a", "b", thing), False)
 
     def test_places_in_parts_apart(self):
         web = Web(list("abcd"), [("a", "b", 0)])

@@ -168,6 +168,11 @@ class Shown(unittest.TestCase):
         self.assertEqual(sum(own[tie] for tie in forest),
                          sum(floor(web, place) for place in web.places() if place not in inside))
 
+    def test_the_first_end_of_a_tie_where_both_lack_a_drop(self):
+        web = Web(list("abcdef"), [("a", "b", 5), ("a", "c", 7), ("a", "e", 3), ("b", "c", 3), ("b", "e", 7),
+                                   ("c", "d", 0), ("e", "f", 0)])
+        self.assertEqual(drop_fault(web, [["b", "e", "f"], ["a", "c", "d"]]), (("a", "b"), "a"))
+
     def test_pieces_of_least_forests_are_by_ridges(self):
         for web in webs_with_hollows(small_webs(76, 200, 5))[:30]:
             own = {(one, other): height for one, other, height in web.ties()}

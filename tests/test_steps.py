@@ -61,6 +61,15 @@ class Led(unittest.TestCase):
         tied = Web(TWO.places(), TWO.ties() + [("g", "h", 9)])
         self.assertTrue(is_led(tied, lots, other, [lots, other]))
 
+    def test_places_that_go_come_into_one_lot(self):
+        web = Web(list("abcdefuv"), [("a", "b", 0), ("c", "d", 0), ("e", "f", 0), ("a", "u", 2), ("c", "u", 2),
+                                     ("a", "v", 2), ("e", "v", 2), ("u", "v", 3)])
+        lots = [["a", "b", "u", "v"], ["c", "d"], ["e", "f"]]
+        other = [["a", "b"], ["c", "d", "u"], ["e", "f", "v"]]
+        self.assertFalse(is_led(web, lots, other, [lots, other]))
+        self.assertFalse(is_led(web, other, lots, [other, lots]))
+        self.assertTrue(is_led(web, lots, other, led(web, lots, other)))
+
     def test_over_small_webs(self):
         source = random.Random(92)
         for web in webs_with_hollows(small_webs(92, 400, 7, chance=0.4, most=1))[:40] + [TWO]:
