@@ -15,7 +15,10 @@ class Worths:
         over, under = price
         self.all_lots = priced.rising()
         self.made_of = {lot: priced.parts_told(lot) for lot in self.all_lots}
-        self.own = {lot: priced.loss(lot) * under + priced.border(lot) * over for lot in self.all_lots}
+        self.own = {}
+        for lot in self.all_lots:
+            loss, border = priced.weighs(lot)
+            self.own[lot] = loss * under + border * over
         # the least worth of lots that part a lot, None for a place alone
         self.parted = {}
         least = {}
@@ -35,6 +38,14 @@ class Worths:
     def is_right_parted(self, lot):
         """Whether some lots part this one, and are not dearer."""
         return self.parted[lot] is not None and self.parted[lot] <= self.own[lot]
+
+    def too_dear(self, lot):
+        """How much a lot is worth above the least of lots that part it; None for a place alone."""
+        return None if self.parted[lot] is None else self.own[lot] - self.parted[lot]
+
+    def around(self, lot):
+        """The lots that have a lot and more, lesser ones first."""
+        return [one for one in self.all_lots if len(one) > len(lot) and lot[0] in one]
 
     def greatest(self):
         """The lots that lie within no other one."""

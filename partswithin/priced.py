@@ -46,6 +46,10 @@ class Priced:
         """All lots, as tuples, so that each stands behind those within it."""
         return list(self._parts)
 
+    def weighs(self, lot):
+        """The loss and the border of a lot that is passed, and told, as a tuple."""
+        return self._weights[lot]
+
     def parts_told(self, lot):
         """The parts of a lot that is passed, and told, as a tuple."""
         return list(self._parts[lot])

@@ -2,7 +2,7 @@
 
 from math import gcd
 
-from partswithin.errors import BadParting, BadPrice, BadPriced
+from partswithin.errors import BadParting, BadPrice, BadPriced, NoLot
 from partswithin.forms import is_list, is_price
 from partswithin.priced import Priced
 
@@ -15,6 +15,14 @@ def need_priced(priced):
 def need_price(price):
     if not is_price(price):
         raise BadPrice(price)
+
+
+def told_lot(priced, lot):
+    """The lot as an ascending tuple; raises NoLot for what is none of the nest's."""
+    told = priced.lot_told(lot)
+    if told is None:
+        raise NoLot(lot)
+    return told
 
 
 def parting_fault(priced, thing):
@@ -59,3 +67,19 @@ def lowest(over, under):
     """The fraction in lowest terms."""
     divisor = gcd(over, under)
     return (over // divisor, under // divisor)
+
+
+def weights_above(priced, lots):
+    """The dict from each lot that is made of two of a parting's lots or more to what they weigh.
+
+    Lots are passed and told as tuples.
+    """
+    weighed = {lot: priced.weighs(lot) for lot in lots}
+    above = {}
+    for lot in priced.rising():
+        inner = priced.parts_told(lot)
+        if lot not in weighed and len(inner) > 0 and all([part in weighed for part in inner]):
+            weighed[lot] = (sum([weighed[part][0] for part in inner]),
+                            sum([weighed[part][1] for part in inner]))
+            above[lot] = weighed[lot]
+    return above

@@ -1,5 +1,6 @@
 """What several tests need: the document's examples, odd objects, small webs, plain readers."""
 
+import inspect
 import itertools
 import random
 import re
@@ -149,3 +150,24 @@ def mutations(texts, signs, seed, many):
             else:
                 text = text[:at]
         yield text
+
+
+def check_errors(case, functions, right, wrong):
+    """That each parameter's wrong things raise its own error, with the very object, ahead of later ones.
+
+    functions are pairs of a function and the names of its parameters; wrong is a dict from
+    names to pairs of wrong things and the error, in the order in which errors are due.
+    """
+    for function, names in functions:
+        case.assertEqual(list(inspect.signature(function).parameters), names)
+        due = [name for name in wrong if name in names]
+        for at, due_name in enumerate(due):
+            things, kind = wrong[due_name]
+            for thing in things:
+                passed = {name: None if name in due[at:] else right[name] for name in names}
+                passed[due_name] = thing
+                try:
+                    function(*passed.values())
+                    case.fail((function.__name__, due_name, thing))
+                except kind as error:
+                    case.assertIs(list(vars(error).values())[0], thing)

@@ -93,3 +93,36 @@ def halves(many):
         if len(lot) > 1:
             lots += [lot[:len(lot) // 2], lot[len(lot) // 2:]]
     return [(lot, (len(lot) - 1) * len(lot), 2 + len(lot) // 2) for lot in lots]
+
+
+def at_least(more, saved):
+    """The least price from 0 on at which so much border makes up for so much loss; None if none does."""
+    if more <= 0:
+        return Fraction(0)
+    return Fraction(more, saved) if saved > 0 else None
+
+
+def turning_prices(priced):
+    """All prices at which two partings are alike dear, 0, and one between each two and behind all."""
+    rows = {(sum(priced.loss(lot) for lot in lots), sum(priced.border(lot) for lot in lots))
+            for lots in all_partings(priced)}
+    prices = {Fraction(0)}
+    for (loss, border), (more, less) in itertools.permutations(rows, 2):
+        if border > less and more >= loss:
+            prices.add(Fraction(more - loss, border - less))
+    prices = sorted(prices)
+    behind = prices[1:] + [prices[-1] + 2]
+    return sorted({price for pair in zip(prices, behind) for price in (pair[0], sum(pair) / 2)})
+
+
+def pair_of(price):
+    return None if price is None else (price.numerator, price.denominator)
+
+
+def coarsest_by_price(priced):
+    """For each turning price the coarsest best parting there, all best ones being listed."""
+    found = []
+    for price in turning_prices(priced):
+        best = best_ones(priced, pair_of(price))
+        found += [(price, lots) for lots in best if all(lies_within(other, lots) for other in best)]
+    return found

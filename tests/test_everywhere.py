@@ -52,10 +52,18 @@ INTERFACE = {
     "best": ["coarsest(priced, price)", "finest(priced, price)", "count_best(priced, price)",
              "best_at(priced, price, number)", "worse(priced, parting, price)",
              "is_worse(priced, parting, price, thing)"],
+    "stretches": ["joins_at(priced, lot)", "stretch(priced, lot)", "price_row(priced)"],
+    "pricesfor": ["prices_for(priced, parting)", "clash(priced, parting)", "is_clash(priced, parting, thing)"],
+    "sizes": ["with_so_many(priced, many)", "is_with_so_many(priced, many, thing)"],
+    "borders": ["within_border(priced, border)"],
+    "losschanges": ["may_rise(priced, price, lot)", "must_fall(priced, price, lot)"],
+    "shades": ["picture_priced(picture, lots)"],
+    "toldprices": ["losses_for(priced, told)", "are_losses_for(priced, told, thing)",
+                   "prices_clash(priced, told)", "joins_between(priced, told, lot)"],
 }
 OVER_WEBS = ("levels", "forests", "tables", "hollows", "whose", "stuck", "drops", "ridges", "kinds",
              "firsts", "steps", "counted", "raising", "rooted", "orders", "water")
-OVER_NESTS = ("worths", "best")
+OVER_NESTS = ("worths", "best", "stretches", "pricesfor", "sizes", "borders", "losschanges", "toldprices")
 NEST = Priced(V)
 
 PARTING = [["c", "b", "a"], ["d", "e"]]
@@ -66,7 +74,8 @@ RIGHT = {"web": W, "height": 1, "one": "a", "other": "e", "roots": [["b", "a"], 
          "table": [["b", "a", 1], ("b", "c", 2), ("c", "d", None), ("d", "e", 1)],
          "hollow": ["e", "d"], "lot": ["c", "b", "a"], "parting": PARTING,
          "order": [("e", "d"), ["a", "b"]], "number": 1, "index": 0, "kind": "held",
-         "priced": NEST, "price": [1, 1]}
+         "priced": NEST, "price": [1, 1], "many": 2, "border": 9,
+         "told": [[[5, 2], [["b", "a"], ("d", "c")]], ((1, 1), (["a"], ["c"], ["d"], ["b"]))]}
 FIRST_WRONG = {"web": (5, (errors.BadWeb, 5)), "height": ("1", (errors.BadHeight, "1")),
                "one": ("f", (errors.NoPlace, "f")), "other": (7, (errors.NoPlace, 7)),
                "roots": (None, (errors.BadRoots, 0)), "forest": ({}, (errors.BadForest, {})),
@@ -75,18 +84,22 @@ FIRST_WRONG = {"web": (5, (errors.BadWeb, 5)), "height": ("1", (errors.BadHeight
                "lot": (["a", "f"], (errors.BadLot, 1)), "parting": ([["a"]], (errors.BadParting, [["a"]])),
                "order": ([["a"]], (errors.BadOrder, 0)), "number": (-1, (errors.BadNumber, -1)),
                "index": (2, (errors.BadNumber, 2)), "kind": ("deep", (errors.BadKind, "deep")),
-               "priced": (V, (errors.BadPriced, V)), "price": ((2, 2), (errors.BadPrice, (2, 2)))}
+               "priced": (V, (errors.BadPriced, V)), "price": ((2, 2), (errors.BadPrice, (2, 2))),
+               "many": (0, (errors.BadNumber, 0)), "border": (-1, (errors.BadNumber, -1)),
+               "told": ([((1, 1), [["a"]])], (errors.BadTold, 0))}
 # where a parameter's name means something else
 RIGHT_IN = {"tie_kind": {"other": "b"},
             "led": {"one": PARTING, "other": [["b", "a"], ("c", "d", "e")]},
             "is_led": {"one": PARTING, "other": [["b", "a"], ("c", "d", "e")]},
             "may_join": {"parting": [["a", "b"], ("c", "d", "e")]},
-            "weights": {"parting": [["d", "c"], ("a",), ["b"]]},
-            "worth": {"parting": [["d", "c"], ("a",), ["b"]]},
-            "worse": {"parting": [["d", "c"], ("a",), ["b"]]},
-            "is_worse": {"parting": [["d", "c"], ("a",), ["b"]]}}
+            "joins_at": {"lot": ["d", "c"]}, "stretch": {"lot": ("d", "c")}, "joins_between": {"lot": list("dcba")},
+            "may_rise": {"lot": ["b", "a"]}, "must_fall": {"lot": ["b"]}}
 WRONG_IN = {name: {"one": ("f", (errors.BadParting, "f")), "other": ([], (errors.BadParting, []))}
             for name in ("led", "is_led")}
+for nest_function in ("weights", "worth", "worse", "is_worse", "prices_for", "clash", "is_clash"):
+    RIGHT_IN[nest_function] = {"parting": [["d", "c"], ("a",), ["b"]]}
+for nest_function in ("joins_at", "stretch", "joins_between", "may_rise", "must_fall"):
+    WRONG_IN[nest_function] = {"lot": (["a", "f"], (errors.NoLot, ["a", "f"]))}
 
 
 def listed():
@@ -195,10 +208,15 @@ class Passed(unittest.TestCase):
     def test_shades_and_rows_are_not_changed(self):
         from partswithin.nesttexts import priced_text
         from partswithin.pictures import picture_web
-        before = copy.deepcopy((M, V))
+        from partswithin.shades import picture_priced
+        lots = [["r1c1", "r0c1"], ["r0c0", "r1c1", "r0c1"]]
+        before = copy.deepcopy((M, V, lots))
         picture_web(M)
         priced_text(V)
-        self.assertEqual((M, V), before)
+        told = picture_priced(M, lots)
+        self.assertEqual((M, V, lots), before)
+        self.assertEqual(picture_priced(swapped(M), swapped(lots)), told)
+        self.assertEqual(picture_priced(lots=lots, picture=M), told)
 
     def test_same_place_comes_behind_no_place_and_ahead_of_bad_height(self):
         from partswithin.levels import level, level_lot, level_way
