@@ -10,9 +10,14 @@ from partswithin.walks import walk
 from partswithin.whose import rises
 
 
+def are_web_lots(web, thing):
+    """Whether any object is a list of lists of unlike places of the web, one at least in each."""
+    return is_list(thing) and all([is_web_lot(web, lot) for lot in thing])
+
+
 def is_sharing(web, thing):
     """Whether any object is a list of lots that have all places of the web, each once."""
-    if not is_list(thing) or not all([is_web_lot(web, lot) for lot in thing]):
+    if not are_web_lots(web, thing):
         return False
     return sorted([place for lot in thing for place in lot]) == web.places()
 
@@ -88,3 +93,17 @@ def lots_chosen(web, choices):
         if near is not None:
             joined.unite(place, near)
     return joined.lots()
+
+
+def parting_along(web, rows):
+    """A parting by ridges in which each of these rows of falls to a hollow lies in one lot.
+
+    Where a row comes to a place of one ahead it goes on as that one does.
+    """
+    choices = {place: None for place in hollows_by_place(web)}
+    for row in rows:
+        for place, near in zip(row, row[1:]):
+            choices.setdefault(place, near)
+    above = rises(web)
+    ahead = walk(choices, lambda place: above[place])
+    return lots_chosen(web, {**ahead, **choices})

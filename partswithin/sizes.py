@@ -36,8 +36,8 @@ def best_by_size(worths):
     for lot in worths.all_lots:
         rows[lot] = {1: [lot]} if worths.is_right_whole(lot) else {}
         if worths.is_right_parted(lot):
-            for many, lots in together_by_size([rows[part] for part in worths.made_of[lot]]).items():
-                rows[lot].setdefault(many, lots)
+            split = together_by_size([rows[part] for part in worths.made_of[lot]])
+            rows[lot] = {**split, **rows[lot]}
     return together_by_size([rows[lot] for lot in worths.greatest()])
 
 
@@ -45,12 +45,16 @@ def together_by_size(choices):
     """By their number, lots that come of taking one row of lots out of each of these dicts."""
     sums = {0: []}
     for choice in choices:
-        ahead = sums
-        sums = {}
-        for many, lots in ahead.items():
-            for more, others in choice.items():
-                if many + more not in sums:
-                    sums[many + more] = lots + others
+        sums = both_by_size(sums, choice)
+    return sums
+
+
+def both_by_size(one, other):
+    sums = {}
+    for many, lots in one.items():
+        for more, others in other.items():
+            if many + more not in sums:
+                sums[many + more] = lots + others
     return sums
 
 

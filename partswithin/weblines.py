@@ -33,7 +33,11 @@ class WebLines:
         return self._stock.first_left(start)
 
     def read_line(self, signs):
-        if signs.one_of(self.words()) == "place ":
+        self.read_rest(signs, signs.one_of(self.words()))
+
+    def read_rest(self, signs, word):
+        """Reads what comes behind one of the words."""
+        if word == "place ":
             self._read_place(signs)
         else:
             self._read_tie(signs)

@@ -3,11 +3,14 @@
 import copy
 import importlib
 import inspect
+import pathlib
+import re
 import unittest
 
 from helpers import M, NONE, R, V, W, odd_objects, raised
 from partswithin import errors
 from partswithin.priced import Priced
+from partswithin.sessions import Session
 from partswithin.webs import Web
 
 INTERFACE = {
@@ -60,11 +63,22 @@ INTERFACE = {
     "shades": ["picture_priced(picture, lots)"],
     "toldprices": ["losses_for(priced, told)", "are_losses_for(priced, told, thing)",
                    "prices_clash(priced, told)", "joins_between(priced, told, lot)"],
+    "ridgeaudits": ["audit_ridges(web_text, lots_text, ties_text)"],
+    "priceaudits": ["joins_for(priced)", "audit_joins(priced_text, joins_text)",
+                    "audit_claim(priced_text, joins_text, claim_text)"],
+    "whynot": ["why_not_with(web, place, other)", "is_why_not_with(web, place, other, thing)",
+               "together_from(priced, place, other)", "why_apart(priced, place, other, price)"],
+    "twonests": ["common(one, other)", "whole(one, other)", "crossing(one, other)"],
+    "agreeing": ["marks_for(web, sharing)", "no_marks(web, sharing)", "is_no_marks(web, sharing, thing)",
+                 "agreeing(web, priced)"],
+    "sessions": ["Session()"],
+    "sessiontexts": ["write_session(session)", "read_session(text)"],
 }
 OVER_WEBS = ("levels", "forests", "tables", "hollows", "whose", "stuck", "drops", "ridges", "kinds",
-             "firsts", "steps", "counted", "raising", "rooted", "orders", "water")
-OVER_NESTS = ("worths", "best", "stretches", "pricesfor", "sizes", "borders", "losschanges", "toldprices")
+             "firsts", "steps", "counted", "raising", "rooted", "orders", "water", "whynot", "agreeing")
+OVER_NESTS = ("worths", "best", "stretches", "pricesfor", "sizes", "borders", "losschanges", "toldprices", "twonests")
 NEST = Priced(V)
+OVER_W = Priced([([place], 0, 2) for place in "abcde"] + [(["a", "b"], 1, 3), (["c", "d", "e"], 7, 2), (list("abcde"), 20, 0)])
 
 PARTING = [["c", "b", "a"], ["d", "e"]]
 
@@ -74,7 +88,7 @@ RIGHT = {"web": W, "height": 1, "one": "a", "other": "e", "roots": [["b", "a"], 
          "table": [["b", "a", 1], ("b", "c", 2), ("c", "d", None), ("d", "e", 1)],
          "hollow": ["e", "d"], "lot": ["c", "b", "a"], "parting": PARTING,
          "order": [("e", "d"), ["a", "b"]], "number": 1, "index": 0, "kind": "held",
-         "priced": NEST, "price": [1, 1], "many": 2, "border": 9,
+         "priced": NEST, "price": [1, 1], "many": 2, "border": 9, "sharing": (["d", "c", "e"], ("b", "a")),
          "told": [[[5, 2], [["b", "a"], ("d", "c")]], ((1, 1), (["a"], ["c"], ["d"], ["b"]))]}
 FIRST_WRONG = {"web": (5, (errors.BadWeb, 5)), "height": ("1", (errors.BadHeight, "1")),
                "one": ("f", (errors.NoPlace, "f")), "other": (7, (errors.NoPlace, 7)),
@@ -86,20 +100,42 @@ FIRST_WRONG = {"web": (5, (errors.BadWeb, 5)), "height": ("1", (errors.BadHeight
                "index": (2, (errors.BadNumber, 2)), "kind": ("deep", (errors.BadKind, "deep")),
                "priced": (V, (errors.BadPriced, V)), "price": ((2, 2), (errors.BadPrice, (2, 2))),
                "many": (0, (errors.BadNumber, 0)), "border": (-1, (errors.BadNumber, -1)),
-               "told": ([((1, 1), [["a"]])], (errors.BadTold, 0))}
+               "told": ([((1, 1), [["a"]])], (errors.BadTold, 0)), "sharing": ([["a"]], (errors.BadSharing, [["a"]]))}
 # where a parameter's name means something else
 RIGHT_IN = {"tie_kind": {"other": "b"},
             "led": {"one": PARTING, "other": [["b", "a"], ("c", "d", "e")]},
             "is_led": {"one": PARTING, "other": [["b", "a"], ("c", "d", "e")]},
             "may_join": {"parting": [["a", "b"], ("c", "d", "e")]},
             "joins_at": {"lot": ["d", "c"]}, "stretch": {"lot": ("d", "c")}, "joins_between": {"lot": list("dcba")},
-            "may_rise": {"lot": ["b", "a"]}, "must_fall": {"lot": ["b"]}}
+            "may_rise": {"lot": ["b", "a"]}, "must_fall": {"lot": ["b"]},
+            "together_from": {"other": "d"}, "why_apart": {"other": "d"}, "agreeing": {"priced": OVER_W}}
 WRONG_IN = {name: {"one": ("f", (errors.BadParting, "f")), "other": ([], (errors.BadParting, []))}
             for name in ("led", "is_led")}
 for nest_function in ("weights", "worth", "worse", "is_worse", "prices_for", "clash", "is_clash"):
     RIGHT_IN[nest_function] = {"parting": [["d", "c"], ("a",), ["b"]]}
 for nest_function in ("joins_at", "stretch", "joins_between", "may_rise", "must_fall"):
     WRONG_IN[nest_function] = {"lot": (["a", "f"], (errors.NoLot, ["a", "f"]))}
+for nest_function in ("common", "whole", "crossing"):
+    RIGHT_IN[nest_function] = {"one": [(["b", "a"], 1)], "other": [[("c", "b"), -1], (["a", "c", "b"], 0)]}
+    WRONG_IN[nest_function] = {"one": (5, (errors.BadNest, 5)), "other": ([[]], (errors.BadNest, [[]]))}
+RIGHT_IN["whole"]["other"] = [[("e", "d"), 1], (["b", "a"], 0)]
+
+# what the functions that take neither webs nor nests, or change something, are passed by name
+TEXTS = {"lots_text": {"lots": [["b", "a"]]}, "ties_text": {"ties": [("b", "a")]}, "nest_text": {"nest": [(["a"], 1)]},
+         "priced_text": {"rows": V}, "joins_text": {"rows": [(["b", "a"], (1, 2))]}, "claim_text": {"claim": ((1, 2), [["a"]])},
+         "web_text": {"web": W}, "web_goes_on": {"text": "place"}, "picture_text": {"picture": M}, "picture_web": {"picture": M},
+         "read_picture": {"text": "1 2\n"}, "read_ties": {"text": "tie a b\n"}, "read_joins": {"text": "join a at 1/2\n"},
+         "read_claim": {"text": "price 1\n"}, "Web": {"places": ["b", "a"], "ties": [("b", "a", 1)]}, "Priced": {"rows": V},
+         "priced_fault": {"rows": V[1:]}, "picture_priced": {"picture": M, "lots": [["r0c0", "r1c1"]]},
+         "audit_ridges": {"web_text": "place a\n", "lots_text": "lot a\n", "ties_text": "tie a b\n"}, "joins_for": {"priced": NEST},
+         "audit_joins": {"priced_text": "lot a loss 0 border 1\n", "joins_text": "join a at 0\n"},
+         "audit_claim": {"priced_text": "lot a loss 0 border 1\n", "joins_text": "", "claim_text": "price 1\nlot b\n"},
+         "write_session": {"session": Session()}}
+# each method that has parameters, with what it is called on, made anew for each call
+METHODS = ((lambda: W, "ties_of", {"place": "b"}), (lambda: NEST, "loss", {"lot": ["b", "a"]}), (lambda: NEST, "border", {"lot": ["b", "a"]}),
+           (lambda: NEST, "parts", {"lot": ["b", "a"]}), (Session, "do", {"deed": ("place", "a")}), (Session, "at", {"number": 0}),
+           (Session, "is_question", {"thing": ("hollows",)}), (Session, "answer", {"question": ("hollows",)}),
+           (Session, "would", {"deed": ("place", "a")}), (Session, "trial", {"work": lambda session: session.do(("place", "a"))}))
 
 
 def listed():
@@ -129,6 +165,14 @@ def lists_in(thing):
     return found
 
 
+def called_with(function, things, names):
+    """What a call tells, or the error that it raises, as its class and what it keeps."""
+    try:
+        return function(*things, **names)
+    except errors.PartsError as error:
+        return (error.__class__, vars(error))
+
+
 class Interface(unittest.TestCase):
 
     def test_names_parameters_and_files(self):
@@ -139,9 +183,38 @@ class Interface(unittest.TestCase):
                 with self.subTest(line):
                     self.assertEqual(getattr(found, name).__module__, f"partswithin.{module}")
                     parameters = inspect.signature(getattr(found, name)).parameters
-                    self.assertEqual(list(parameters), names.split(", "))
-        for method in ("places", "ties", "ties_of", "__eq__"):
-            self.assertIn(method, vars(Web))
+                    self.assertEqual(list(parameters), names.split(", ") if names else [])
+        for kind, methods in ((Web, "places ties ties_of"), (Priced, "rows places loss border parts"),
+                              (Session, "now watched do is_question answer would count deeds undo again at copy trial")):
+            for method in methods.split() + ["__eq__"]:
+                self.assertIn(method, vars(kind))
+
+    def test_the_whole_document_is_listed(self):
+        document = pathlib.Path(__file__).resolve().parents[2] / "shared" / "DOC.md"
+        if document.exists():
+            rows = re.findall(r"^- `partswithin/(\w+)\.py`: (.*)$", document.read_text(), re.M)
+            told = {module: re.findall(r"(?<!session\.)(?<!web\.)(?<!priced\.)\b(\w+\([^)]*\))", line) for module, line in rows}
+            self.assertEqual({module: lines for module, lines in told.items() if module != "errors"}, INTERFACE)
+
+    def test_each_by_name_in_another_order_and_by_place(self):
+        called = {}
+        for module, lines in INTERFACE.items():
+            for line in lines:
+                name, names = line[:-1].split("(")
+                function = getattr(importlib.import_module(f"partswithin.{module}"), name)
+                default = {"text": "place a\n"} if names == "text" else {}
+                right = TEXTS.get(name) or default or {key: RIGHT_IN.get(name, {}).get(key, RIGHT.get(key))
+                                                       for key in names.split(", ") if key}
+                told = [called_with(function, list(right.values()), {}),
+                        called_with(function, [], dict(list(right.items())[::-1]))]
+                with self.subTest(line):
+                    self.assertEqual(list(right), names.split(", ") if names else [])
+                    self.assertEqual(told[0], told[1])
+                    self.assertNotIsInstance(told[0], TypeError)
+                called[name] = True
+        self.assertEqual(len(called), sum(map(len, INTERFACE.values())))
+        for make, name, right in METHODS:
+            self.assertEqual(getattr(make(), name)(*right.values()), getattr(make(), name)(**right))
 
 
 class Passed(unittest.TestCase):
@@ -194,9 +267,9 @@ class Passed(unittest.TestCase):
 
     def test_the_same_answer_each_time(self):
         # equal ones that were made otherwise, with other ones asked between
-        again = {"web": Web(list("ebdca"), [(other, one, height) for one, other, height in W.ties()[::-1]]),
-                 "priced": Priced(V[::-1])}
         for function, right, _ in listed():
+            again = {"web": Web(list("ebdca"), [(other, one, height) for one, other, height in W.ties()[::-1]]),
+                     "priced": Priced(right.get("priced", NEST).rows()[::-1])}
             told = function(*right.values())
             if list(right) == ["web"]:
                 function(R)

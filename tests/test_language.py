@@ -87,6 +87,10 @@ class Language(unittest.TestCase):
         wrong = (ast.GeneratorExp, ast.Await, ast.Yield, ast.YieldFrom, ast.Div, ast.MatMult)
         for name, node in nodes(wrong):
             self.fail((name, getattr(node, "lineno", node)))
+        for name, node in nodes(ast.Try):
+            for statement in node.finalbody:
+                self.assertIsInstance(statement, ast.Assign, (name, node.lineno))
+                self.assertIsInstance(statement.value, ast.Name, (name, node.lineno))
         for name, node in nodes(ast.Constant):
             self.assertIsInstance(node.value, (int, str, type(None)), (name, node.lineno))
             self.assertNotIn("%", str(node.value), (name, node.lineno))
@@ -95,8 +99,9 @@ class Language(unittest.TestCase):
                 if isinstance(sign, (ast.Is, ast.IsNot)):
                     self.assertIsInstance(thing, ast.Constant, (name, node.lineno))
         for name, node in nodes(ast.ExceptHandler):
-            self.assertIsInstance(node.type, ast.Name, (name, node.lineno))
-            self.assertNotIn(node.type.id, dir(builtins), (name, node.lineno))
+            for kind in node.type.elts if isinstance(node.type, ast.Tuple) else [node.type]:
+                self.assertIsInstance(kind, ast.Name, (name, node.lineno))
+                self.assertNotIn(kind.id, dir(builtins), (name, node.lineno))
 
     def test_names(self):
         for name, node in nodes((ast.Name, ast.arg, ast.Attribute, ast.FunctionDef, ast.ClassDef)):
