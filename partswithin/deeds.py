@@ -41,7 +41,7 @@ def web_behind(web, deed):
     word, *told = deed
     if word == "place":
         return with_place(web, told[0])
-    need_names(web, told[:2] if word == "tie" else told)
+    need_names(web, told[:2])
     if word == "leave":
         gone = told[0]
         return Web([place for place in web.places() if place != gone],

@@ -9,22 +9,20 @@ from partswithin.worths import lowest, need_parting, weights_above
 
 def prices_for(priced, parting):
     need_parting(priced, parting)
-    lot, low = last_to_join(priced, parting)
+    _, low = last_to_join(priced, parting)
     high = least_price(list(prices_above(priced, parting).values()))
-    if lot is not None and low is None or is_below(high, low):
-        return None
-    return (low, high)
+    return None if low is None or is_below(high, low) else (low, high)
 
 
 def last_to_join(priced, parting):
-    """A lot of the parting that joins last of all, and its price, None if it never does.
+    """A lot of the parting, as a tuple, that joins last of all, and its price, None if it never does.
 
-    The lot is a tuple; of a parting of nothing it is None, and the price 0.
+    The lot is None, and the price 0, if none joins above 0.
     """
     joins = joins_by_lot(priced)
     last = (None, (0, 1))
     for told in sorted([priced.lot_told(lot) for lot in parting]):
-        if last[0] is None or is_below(last[1], joins[told]):
+        if is_below(last[1], joins[told]):
             last = (told, joins[told])
     return last
 
@@ -65,7 +63,8 @@ def is_clash(priced, parting, thing):
         less, more = change_by(priced, parting, thing[1], thing[2])
         other = priced.lot_told(thing[3])
         above = prices_above(priced, parting).get(other)
-        return less > 0 and more > 0 and above is not None and is_below(above, lowest(less, more))
+        # with no less loss they are less dear below no price: nothing is below that
+        return more > 0 and is_below(above, lowest(less, more))
     return False
 
 

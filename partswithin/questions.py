@@ -1,6 +1,5 @@
 """Questions about a web, their answers, and what shows that these are so."""
 
-from partswithin.checks import need_web
 from partswithin.forms import is_list
 from partswithin.hollows import hollows
 from partswithin.kinds import falls_apart, falls_together, tie_kind

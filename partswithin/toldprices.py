@@ -70,7 +70,6 @@ def joins_between(priced, told, lot):
 
 
 def losses_for(priced, told):
-    need_told(priced, told)
     if prices_clash(priced, told) is not None:
         return None
     rows = rows_by_price(told)

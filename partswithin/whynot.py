@@ -1,7 +1,6 @@
 """Why two places are not in one lot: of partings by ridges, and of coarsest best partings."""
 
 from partswithin.best import Worths
-from partswithin.checks import need_two_places
 from partswithin.errors import NoPlace, SamePlace
 from partswithin.forms import is_row, lot_indexes
 from partswithin.joining import joins_by_lot
@@ -14,7 +13,6 @@ from partswithin.worths import lowest, need_price, need_priced
 
 
 def why_not_with(web, place, other):
-    need_two_places(web, place, other)
     if falls_together(web, place, other) is None:
         return ("never", hollows_under(web, place), hollows_under(web, other))
     rows = falls_apart(web, place, other)

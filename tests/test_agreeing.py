@@ -83,6 +83,9 @@ class Marks(unittest.TestCase):
                                    (("apart", ["e"]), [["a", "b"], ["c"], ["d", "f"], ["e"]], False),
                                    (("none", ["a", "b"]), [["a", "b"], ["c"], ["d", "f"], ["e"]], False)):
             self.assertIs(is_no_marks(web, lots, thing), right)
+        lots = [["a", "b"], ["c"], ["d", "f"], ["e"]]
+        for thing in (("apart", ["d", "f"], []), ("none", ["c"], []), ("low", ["d", "f"]), ("low", ["c"]), ("low", ["c"], [])):
+            self.assertIs(is_no_marks(web, lots, thing), False)
         # another lot is low, but one has no hollow
         self.assertIs(is_no_marks(web, [["a", "b"], list("cef"), ["d"]], ("low", ["c", "e", "f"], [])), False)
         ring = Web(list("abcdef"), [("a", "b", 1), ("c", "d", 1), ("b", "c", 9), ("a", "e", 2), ("e", "f", 2), ("f", "c", 9)])
@@ -143,7 +146,8 @@ class Marks(unittest.TestCase):
                  ("low", lot, [(["r", "s"], ("p", "t"))]), ("low", lot, [(["r", "s"], ("r", "q"))]), ("low", lot, [(["r"], ("t", "p"))]),
                  ("apart", lot), ("none", lot), (["low"], lot, rows), ("low", ["r", "s"], rows), ("low", lot, [(["r", "s"], "tp")]),
                  ("low", lot, [(["p", "q"], ("t", "p"))]), ("apart", lot, rows), ("none",), ("low", ["r", "s", "t", "t"], rows),
-                 ("low", lot, [(["r", "s"], ("t", "p"), 1)]), ("low", lot, [(["r", "s"], ("t", "q"))]), None]
+                 ("low", lot, [(["r", "s"], ("t", "p"), 1)]), ("low", lot, [(["r", "s"], ("t", "q"))]), None,
+                 ("apart", ["p", "r"]), ("none", ["t"]), ("none", ["p"]), ("low", ["t"], []), ("low", ["r", "s"], [(["r", "s"], ("s", "t"))])]
         for thing in odd_objects() + wrong:
             self.assertIs(is_no_marks(R, APART, thing), False, thing)
             for told in (("low", thing, rows), ("low", lot, thing), ("low", lot, [thing]), ("low", lot, [(thing, ("t", "p"))]),
@@ -177,6 +181,22 @@ class Agreeing(unittest.TestCase):
         self.assertEqual(price_row(priced), [((0, 1), [["a"], ["b"], ["c"], ["d"], ["e"]]), ((1, 1), [["a", "b"], ["c"], ["d", "e"]]),
                                              ((2, 1), [["a", "b"], ["c", "d", "e"]]), ((12, 5), [list("abcde")])])
         self.assertEqual(agreeing(W, priced), [((2, 1), [["a", "b"], ["d", "e"]]), ((12, 5), [["a", "b"]])])
+
+    def test_marks_are_ascending(self):
+        # the lot of a has its hollow behind that of the other one
+        web = Web(list("abcxy"), [("x", "y", 0), ("b", "c", 0), ("a", "x", 1), ("a", "b", 2)])
+        lots = [["a", "x", "y"], ["b", "c"]]
+        self.assertEqual(marks_for(web, lots), [["b", "c"], ["x", "y"]])
+        rows = [([place], 0, 1) for place in "abcxy"] + [(lot, 0, 1) for lot in lots]
+        self.assertEqual(agreeing(web, Priced(rows)), [((0, 1), [["b", "c"], ["x", "y"]])])
+
+    def test_a_mark_at_several_prices_is_told_anew(self):
+        web = Web(list("abcd"), [("a", "b", 0), ("c", "d", 0), ("b", "c", 1)])
+        rows = [([place], 0, 1) for place in "abcd"] + [(["a", "b"], 0, 1), (["c", "d"], 0, 1), (list("abcd"), 3, 0)]
+        told = agreeing(web, Priced(rows))
+        self.assertEqual(told, [((0, 1), [["a", "b"], ["c", "d"]]), ((3, 2), [["a", "b"]])])
+        told[0][1][0].clear()
+        self.assertEqual(told[1], ((3, 2), [["a", "b"]]))
 
     def test_no_place_and_all_in_one(self):
         self.assertEqual(agreeing(NONE, Priced([])), [((0, 1), [])])

@@ -74,6 +74,9 @@ class PricesFor(unittest.TestCase):
         priced = Priced([(["a"], 0, 1), (["b"], 0, 1), (["a", "b"], 1, 2)])
         self.assertEqual((prices_for(priced, [["a"], ["b"]]), prices_for(priced, [["b", "a"]])), (((0, 1), None), None))
         self.assertEqual(clash(priced, [["b", "a"]]), ("never", ["a", "b"], [["a"], ["b"]]))
+        never = (["a", "b"], [["b"], ["a"]])
+        for word, right in (("never", True), ("two", False), (["never"], False), (None, False), ("clash", False)):
+            self.assertIs(is_clash(priced, [["b", "a"]], (word, *never)), right)
         alike = Priced([(["a"], 1, 1), (["b"], 0, 1), (["a", "b"], 1, 2)])
         self.assertEqual([prices_for(alike, lots) for lots in ([["a"], ["b"]], [["a", "b"]])], [((0, 1), None)] * 2)
         free = Priced([(["a"], 1, 1), (["b"], 0, 1), (["a", "b"], 1, 1)])

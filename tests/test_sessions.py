@@ -298,6 +298,9 @@ class Sessions(unittest.TestCase):
         self.assertEqual(raised(session.do, ("tie", "b", "c", 1)), (WouldChange, ("stands", "d", "c"), (None, [["a", "b", "c"], ["d", "e"]])))
         session = session_of(W, ("hold", ("under", "c")), ("hold", ("hollows",)))
         self.assertEqual(raised(session.do, ("tie", "c", "d", 1)), (WouldChange, ("under", "c"), (2, 1)))
+        # the part of e is not the first one
+        session = session_of(W, ("hold", ("level", "e", "a")))
+        self.assertEqual(raised(session.do, ("cut", "c", "d")), (WouldChange, ("level", "e", "a"), ["d", "e"]))
         # from "every" to "some": both partings are shown
         web = Web(list("abcd"), [("a", "b", 1), ("c", "d", 1), ("b", "c", 2)])
         session = session_of(web, ("place", "e"), ("tie", "e", "b", 3), ("tie", "e", "c", 4), ("hold", ("stands", "c", "e")))
@@ -421,6 +424,13 @@ class BackAndOn(unittest.TestCase):
         session.do(("place", "z"))
         self.assertIsNone(session.again())
         self.assertEqual(session.deeds()[-2:], [("watch", WHY[1]), ("place", "z")])
+        self.assertEqual(session.now().places(), list("abcdez"))
+        self.assertEqual([row[0] for row in session.watched()], [WHY[0], WHY[1]])
+        session.undo()
+        session.undo()
+        session.do(("leave", "d"))
+        self.assertEqual((session.now().places(), session.undo(), session.undo()), (list("abce"), ("leave", "d"), ("watch", WHY[0])))
+        self.assertEqual((session.now(), session.again(), session.again(), session.again()), (W, ("watch", WHY[0]), ("leave", "d"), None))
 
     def test_back_and_on_whatever_is_held(self):
         session = session_of(Web(list("ab"), []), ("tie", "a", "b", 1), ("hold", ("level", "a", "b")))

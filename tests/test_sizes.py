@@ -52,6 +52,13 @@ class Sizes(unittest.TestCase):
         self.assertIs(is_with_so_many(NEVER, 1, ["never", 2]), True)
         self.assertEqual(with_so_many(Priced([]), 0), ("at", (0, 1), []))
 
+    def test_the_least_price_of_several_with_fewer_and_more(self):
+        # a, b, c are as dear in one as alone for ever; d, e, f are so at 1 alone
+        rows = [([place], 0, 1) for place in "abcdef"] + [(list("abc"), 0, 3), (list("def"), 3, 0)]
+        priced = Priced(rows)
+        self.assertEqual([with_so_many(priced, many)[:2] for many in range(2, 7)],
+                         [("at", (1, 1)), ("between", (1, 1)), ("at", (0, 1)), ("between", (0, 1)), ("at", (0, 1))])
+
     def test_of_lots_that_change_nothing_some_are_joined(self):
         rows = [([place], 0, 1) for place in "abcdefgh"] + [(list("abcdefgh"[at:at + 2]), 0, 2) for at in (0, 2, 4, 6)]
         priced = Priced(rows)
